@@ -1,0 +1,106 @@
+"""What several test files use: webs, things that are none, and what refusals are checked with."""
+
+import copy
+from itertools import combinations
+
+from treewalkers import errors
+
+PAIR = (2, ((0, 1),))
+LINE = (3, ((0, 1), (1, 2)))
+TREE = (4, ((0, 1), (0, 2), (2, 3)))
+STAR = (8, tuple((0, b) for b in range(1, 8)))
+LONG = (8, tuple((a, a + 1) for a in range(7)))
+RING = (4, ((0, 1), (0, 3), (1, 2), (2, 3)))
+RING_OF_EIGHT = (8, ((0, 1), (0, 7), (1, 2), (2, 3), (3, 4), (4, 5), (5, 6), (6, 7)))
+FULL = (8, tuple(combinations(range(8), 2)))
+KITE = (5, ((0, 1), (0, 2), (1, 2), (2, 3), (3, 4)))
+
+WEBS = (PAIR, LINE, TREE, STAR, LONG, RING, RING_OF_EIGHT, FULL, KITE)
+TREES = (PAIR, LINE, TREE, STAR, LONG)
+RINGED = (RING, RING_OF_EIGHT, FULL, KITE)
+
+DEEP = ((((((1,),),),),),)
+
+NO_WEBS = (
+    # how many places there are
+    (1, ()), (0, ()), (-1, ()), (1, ((0, 1),)), (-2, ((0, 1),)),
+    (9, tuple((a, a + 1) for a in range(8))), (10 ** 29, ((0, 1),)),
+    (True, ()), (True, ((0, 1),)), (False, ()), ("2", ((0, 1),)), (None, ((0, 1),)), ([2], ((0, 1),)),
+    # lists in the place of tuples
+    [2, ((0, 1),)], (2, [(0, 1)]), (2, ([0, 1],)), [2, [[0, 1]]], (3, ((0, 1), [1, 2])),
+    # ties that are not as they are to be
+    (3, ((1, 2), (0, 1))), (3, ((0, 1), (0, 1), (1, 2))), (2, ((0, 1), (0, 1))),
+    (2, ((1, 0),)), (3, ((0, 1), (2, 1))), (3, ((1, 0), (1, 2))),
+    (2, ((0, 0), (0, 1))), (2, ((0, 1), (1, 1))),
+    (2, ((0, 2),)), (2, ((0, 1), (0, 2))), (2, ((0, 1), (1, 2))), (2, ((-1, 0), (0, 1))), (8, STAR[1] + ((7, 8),)),
+    (2, ((0, True),)), (2, ((False, 1),)), (2, ((False, True),)), (3, ((0, 1), (True, 2))),
+    (2, (("0", "1"),)), (2, ((0, "1"),)), (2, ((None, 1),)), (2, ((0, None),)), (2, (([0], 1),)), (2, ((0, (1,)),)),
+    (2, ("01",)), (2, (0, 1)), (2, (None,)), (2, ({0: 1},)), (2, ((0, 1), None)), (2, (None, (0, 1))),
+    (2, ((0,),)), (2, ((),)), (2, ((0, 1, 1),)), (3, ((0, 1), (0, 1, 2), (1, 2))), (3, ((0, 1), (1,), (1, 2))),
+    (2, "01"), (2, None), (2, {(0, 1): True}), (2, 1), (2, True), (2, {}),
+    # too short, too long
+    (), (2,), (((0, 1),),), (2, ((0, 1),), ()), (2, ((0, 1),), None), (2, 0, 1),
+    # not hanging together
+    (2, ()), (3, ((0, 1),)), (3, ((1, 2),)), (4, ((0, 1), (2, 3))), (4, ((1, 2), (1, 3), (2, 3))),
+    (8, tuple(combinations(range(7), 2))), (6, ((0, 1), (0, 2), (1, 2), (3, 4), (3, 5), (4, 5))),
+    # other kinds of things
+    None, True, False, 0, 2, -7, 10 ** 29, "", "2: 0-1", "ab", [], {}, {2: ((0, 1),)}, {"many": 2, "ties": [[0, 1]]},
+    DEEP, (2, DEEP), (DEEP, DEEP), [[[[[[]]]]]], {"a": {"b": {"c": [1, (2, None)]}}}, (2, tuple(range(490))),
+    (2, ((0, 1),) * 150), b"2: 0-1", 2.0, (2.0, ((0, 1),)), (2, ((0, 1.0),)), (2, ((0.0, 1),)),
+)
+
+# None of these is a place of any web.
+NO_PLACES = (
+    -1, -8, 8, 9, 10 ** 29, -10 ** 29, True, False, None, "", "0", "1", [], [0], (), (0,), (0, 1), {}, {0: 1}, 0.0, 1.0,
+    b"0", DEEP,
+)
+
+
+def all_webs(many):
+    """Every web of so many places, found apart from the program: what a place 0 leads to is spread tie by tie."""
+    ties = list(combinations(range(many), 2))
+    webs = []
+    for picked in range(2 ** len(ties)):
+        chosen = tuple(tie for at, tie in enumerate(ties) if picked >> at & 1)
+        reached = {0}
+        for time in range(many):
+            for a, b in chosen:
+                if a in reached or b in reached:
+                    reached |= {a, b}
+        if len(reached) == many:
+            webs.append((many, chosen))
+    return webs
+
+
+def table_of_distances(web):
+    """How far all places are apart, by ways over one more place at a time."""
+    many, ties = web
+    far = [[0 if a == b else 99 for b in range(many)] for a in range(many)]
+    for a, b in ties:
+        far[a][b] = far[b][a] = 1
+    for over in range(many):
+        for a in range(many):
+            for b in range(many):
+                far[a][b] = min(far[a][b], far[a][over] + far[over][b])
+    return far
+
+
+def assert_refused(case, error, function, *things):
+    """The function refuses the things with just this class, twice alike, and leaves them as they were."""
+    ahead = copy.deepcopy(things)
+    for time in range(2):
+        with case.subTest(function=function.__name__, things=things):
+            with case.assertRaises(errors.WalkError) as caught:
+                function(*things)
+            case.assertIs(caught.exception.__class__, error)
+            case.assertEqual(repr(things), repr(ahead))
+
+
+def assert_told(case, told, function, *things):
+    """The function tells just this, of the same kinds throughout, twice alike, and leaves the things as they were."""
+    ahead = copy.deepcopy(things)
+    for time in range(2):
+        with case.subTest(function=function.__name__, things=things):
+            # The texts of both differ where 1 and True, or tuples and lists, are mixed up.
+            case.assertEqual(repr(function(*things)), repr(told))
+            case.assertEqual(repr(things), repr(ahead))

@@ -1,0 +1,150 @@
+"""The rules of LANGUAGE.md that can be seen in the files of the package without running them."""
+
+import ast
+import builtins
+import re
+import unittest
+from pathlib import Path
+
+PACKAGE = Path(__file__).resolve().parent.parent / "treewalkers"
+
+ALLOWED_NODES = set("""
+    Module Expr Assign AugAssign AnnAssign If While For Return Break Continue Pass Raise Assert Delete Try
+    ExceptHandler FunctionDef ClassDef ImportFrom alias arguments arg keyword Lambda Name Attribute Subscript Slice
+    Starred Constant JoinedStr FormattedValue List Tuple Dict Set ListComp DictComp SetComp comprehension Call IfExp
+    BinOp UnaryOp BoolOp Compare Load Store Del Add Sub Mult FloorDiv Mod Pow LShift RShift BitAnd BitOr BitXor Invert
+    USub UAdd Not And Or Eq NotEq Lt LtE Gt GtE Is IsNot In NotIn
+""".split())
+
+ALLOWED_BUILTINS = set("""
+    len range enumerate zip min max sum abs sorted reversed int str bool bytes list tuple dict set frozenset isinstance
+    ord repr any all divmod Exception ValueError TypeError KeyError IndexError LookupError ZeroDivisionError
+    ArithmeticError OverflowError RuntimeError NotImplementedError StopIteration
+""".split())
+
+BARRED_WORDS = set("""
+    type typing typing_extensions enum Enum IntEnum StrEnum Flag IntFlag Generic Protocol ABC ABCMeta namedtuple
+    NamedTuple TypedDict TYPE_CHECKING abstractmethod
+""".split())
+
+BARRED_NAMES = set("""
+    register mro elements open input version_info with_traceback add_note attrgetter breakpoint builtins compile
+    copyright credits delattr dir eval exec exit gc getattr globals hasattr help id importlib license locals
+    methodcaller os quit setattr super type vars sys
+""".split())
+
+DUNDER_METHODS = {"__init__", "__eq__", "__repr__", "__str__", "__len__"}
+
+
+def package_files():
+    return sorted(path for path in PACKAGE.rglob("*") if "__pycache__" not in path.parts)
+
+
+def bound_names(tree):
+    """Every name that a file gives to something."""
+    for node in ast.walk(tree):
+        if isinstance(node, ast.Name) and not isinstance(node.ctx, ast.Load):
+            yield node.id
+        elif isinstance(node, (ast.FunctionDef, ast.ClassDef)):
+            yield node.name
+        elif isinstance(node, ast.arg):
+            yield node.arg
+        elif isinstance(node, ast.ExceptHandler) and node.name:
+            yield node.name
+        elif isinstance(node, ast.alias):
+            yield node.asname or node.name
+
+
+def read_files():
+    """The name, the text and the parsed text of each file of the package."""
+    for path in package_files():
+        text = path.read_text(encoding="utf-8")
+        yield path.name, text, ast.parse(text)
+
+
+def defined_names(module):
+    """The names that a module of the package defines itself, its imports left out."""
+    source = PACKAGE / (module.split(".")[1] + ".py")
+    body = ast.parse(source.read_text(encoding="utf-8")).body
+    own = [node for node in body if not isinstance(node, ast.ImportFrom)]
+    return set(bound_names(ast.Module(own, [])))
+
+
+class LanguageTest(unittest.TestCase):
+    def test_files(self):
+        names = [path.name for path in package_files()]
+        self.assertIn("__init__.py", names)
+        for name in names:
+            self.assertRegex(name, r"^(__init__|[a-z][a-z0-9_]*)\.py$")
+
+    def test_signs_lines_and_words(self):
+        for file, text, tree in read_files():
+            self.assertRegex(text, r"\A[\n -~]*\Z", file)
+            lines = text.split("\n")
+            self.assertLessEqual(len(lines), 401, file)
+            self.assertLessEqual(max(len(line) for line in lines), 120, file)
+            self.assertEqual(set(re.findall(r"[A-Za-z0-9_]+", text)) & BARRED_WORDS, set(), file)
+            self.assertNotRegex(text, "dataclass|overload|contextmanager", file)
+
+    def test_functions_are_short(self):
+        for file, text, tree in read_files():
+            for node in ast.walk(tree):
+                if isinstance(node, ast.FunctionDef):
+                    self.assertLessEqual(node.end_lineno - node.lineno + 1, 40, (file, node.name))
+                    self.assertEqual(node.decorator_list, [], (file, node.name))
+                    self.assertIsNone(node.args.vararg, (file, node.name))
+                    self.assertIsNone(node.args.kwarg, (file, node.name))
+                    self.assertEqual(node.args.posonlyargs, [], (file, node.name))
+
+    def test_only_allowed_statements_and_expressions(self):
+        for file, text, tree in read_files():
+            for node in ast.walk(tree):
+                kind = node.__class__.__name__
+                self.assertIn(kind, ALLOWED_NODES, (file, getattr(node, "lineno", None)))
+                if isinstance(node, (ast.While, ast.For)):
+                    self.assertEqual(node.orelse, [], (file, node.lineno))
+                if isinstance(node, ast.Constant):
+                    self.assertIsInstance(node.value, (int, str, bytes, bool, None.__class__), (file, node.lineno))
+                if isinstance(node, ast.Constant) and isinstance(node.value, str):
+                    self.assertNotIn("%", node.value, (file, node.lineno))
+
+    def test_module_level(self):
+        for file, text, tree in read_files():
+            for node in tree.body:
+                plain = isinstance(node, (ast.ImportFrom, ast.FunctionDef, ast.ClassDef, ast.Assign))
+                docstring = node is tree.body[0] and isinstance(node, ast.Expr)
+                self.assertTrue(plain or docstring, (file, node.lineno))
+
+    def test_names(self):
+        for file, text, tree in read_files():
+            for name in bound_names(tree):
+                if name not in DUNDER_METHODS:
+                    self.assertRegex(name, r"^[A-Za-z][A-Za-z0-9_]*$", file)
+                self.assertNotIn(name, BARRED_NAMES, file)
+                self.assertFalse(hasattr(builtins, name), (file, name))
+
+    def test_builtins(self):
+        for file, text, tree in read_files():
+            bound = set(bound_names(tree))
+            for node in ast.walk(tree):
+                if isinstance(node, ast.Name) and node.id not in bound:
+                    self.assertIn(node.id, ALLOWED_BUILTINS, (file, node.lineno))
+
+    def test_imports_name_the_file_that_defines_the_name(self):
+        for file, text, tree in read_files():
+            for node in [node for node in ast.walk(tree) if isinstance(node, ast.ImportFrom)]:
+                self.assertEqual(node.level, 0, file)
+                self.assertRegex(node.module, r"^treewalkers\.[a-z_]+$", file)
+                for one in node.names:
+                    self.assertIn(one.name, defined_names(node.module), file)
+
+    def test_is_only_of_none_and_truths(self):
+        for file, text, tree in read_files():
+            for node in ast.walk(tree):
+                if isinstance(node, ast.Compare) and isinstance(node.ops[0], (ast.Is, ast.IsNot)):
+                    self.assertIsInstance(node.comparators[0], ast.Constant, (file, node.lineno))
+                    self.assertIn(node.comparators[0].value, (None, True, False), (file, node.lineno))
+
+
+if __name__ == "__main__":
+    unittest.main()

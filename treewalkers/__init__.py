@@ -1,0 +1,1 @@
+"""Walkers on trees and webs, told exactly."""
