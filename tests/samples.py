@@ -1,7 +1,9 @@
 """What several test files use: webs, things that are none, and what refusals are checked with."""
 
 import copy
-from itertools import combinations
+from fractions import Fraction
+from itertools import combinations, product
+from math import gcd
 
 from treewalkers import errors
 
@@ -104,3 +106,119 @@ def assert_told(case, told, function, *things):
             # The texts of both differ where 1 and True, or tuples and lists, are mixed up.
             case.assertEqual(repr(function(*things)), repr(told))
             case.assertEqual(repr(things), repr(ahead))
+
+
+# What follows is for what is told by fractions.
+
+WHEEL = (6, ((0, 1), (0, 2), (0, 3), (0, 4), (0, 5), (1, 2), (1, 5), (2, 3), (3, 4), (4, 5)))
+BUG = (7, ((0, 1), (0, 2), (0, 3), (1, 2), (2, 6), (3, 4), (4, 5)))
+FORK = (6, ((0, 3), (1, 3), (2, 4), (3, 4), (4, 5)))
+LIMBS = (7, ((0, 6), (1, 5), (2, 5), (3, 4), (3, 6), (5, 6)))
+
+MORE_WEBS = WEBS + (WHEEL, BUG, FORK, LIMBS)
+MORE_TREES = TREES + (FORK, LIMBS)
+
+# None of these is a fraction.
+NO_FRACTIONS = (
+    (2, 4), (-2, 4), (0, 2), (0, 5), (6, 3), (10 ** 29, 10 ** 29), (3 * 10 ** 28, 9 * 10 ** 28),
+    (1, 0), (0, 0), (-1, 0), (1, -2), (-1, -2), (0, -1), (1, -1), (-1, -1),
+    [1, 2], [0, 1], [], (), (1,), (1, 2, 1), (0, 1, 1), ((1, 2),), ((1, 3), (1, 3)), ((1, 2), 1), (1, (2, 1)),
+    (True, 1), (1, True), (True, True), (False, 1), (0, True), (False, True), (True, 2), (1, None), (None, 1),
+    ("1", 2), (1, "2"), ("1", "2"), "12", "1/2", "", 0, 1, -1, 10 ** 29, True, False, None, {1: 2}, {}, ([1], 2),
+    (1.0, 2), (1, 2.0), 0.5, 0.0, 1.0, b"12", DEEP,
+)
+
+# None of these is a number of steps that is taken anywhere.
+NO_STEPS = (
+    -1, 31, -2, -30, 32, 60, 10 ** 29, -10 ** 29, True, False, None, "", "0", "3", [], [3], (), (3,), (3, 1), {},
+    {3: 3}, 0.0, 3.0, b"3", DEEP,
+)
+
+# None of these is shares, means or a stream of any web.
+ANYTHING = NO_WEBS + WEBS + NO_PLACES + NO_STEPS + NO_FRACTIONS
+
+
+def pair(number):
+    """The fraction, as the program has it, of a number that has a numerator and a denominator."""
+    number = Fraction(number)
+    return (number.numerator, number.denominator)
+
+
+def pairs(*numbers):
+    return tuple(pair(number) for number in numbers)
+
+
+def numbers(fractions):
+    return [Fraction(top, bottom) for top, bottom in fractions]
+
+
+def nearby(web, place):
+    """The places that are tied to the place, found apart from the program."""
+    return [a + b - place for a, b in web[1] if place in (a, b)]
+
+
+def assert_fractions(case, told, many):
+    """What is told is a tuple of so many fractions."""
+    case.assertIs(told.__class__, tuple)
+    case.assertEqual(len(told), many)
+    for one in told:
+        assert_fraction(case, one)
+
+
+def assert_fraction(case, told):
+    case.assertIs(told.__class__, tuple)
+    top, bottom = told
+    case.assertIs(top.__class__, int)
+    case.assertIs(bottom.__class__, int)
+    case.assertGreaterEqual(bottom, 1)
+    case.assertEqual(gcd(top, bottom), 1)
+
+
+def spoiled(fractions):
+    """The tuple of fractions, changed in many ways, each to what is no tuple of so many fractions."""
+    yield list(fractions)
+    yield [list(one) for one in fractions]
+    yield dict(enumerate(fractions))
+    yield str(fractions)
+    yield (fractions,)
+    yield fractions[:-1]
+    yield fractions[1:]
+    yield fractions + ((0, 1),)
+    yield ((0, 1),) + fractions
+    yield fractions + fractions
+    for at, (top, bottom) in enumerate(fractions):
+        # The same number, written so as no fraction is.
+        alike = [(2 * top, 2 * bottom), (-top, -bottom), [top, bottom], (top, bottom, 1), f"{top}/{bottom}"]
+        alike += [(bool(top), bottom)] if top in (0, 1) else []
+        alike += [(top, True), (top,), top] if bottom == 1 else []
+        for other in alike + list(NO_FRACTIONS):
+            yield fractions[:at] + (other,) + fractions[at + 1:]
+
+
+def some_webs(many, step=1):
+    """Webs of so many places, picked here and there from all choices of ties."""
+    ties = list(combinations(range(many), 2))
+    found = []
+    for time in range(1, 60, step):
+        picked = time * 2654435761 % 2 ** len(ties)
+        chosen = [tie for at, tie in enumerate(ties) if picked >> at & 1]
+        # A line through all places makes each choice hang together.
+        line = [(place, place + 1) for place in range(many - 1)] if time % 2 else [(0, b) for b in range(1, many)]
+        found.append((many, tuple(sorted(set(chosen + line)))))
+    return found
+
+
+def tree_by_parents(parents):
+    """The tree of which each place but 0 is tied to a lesser one, its parent."""
+    return (len(parents) + 1, tuple(sorted((parent, at + 1) for at, parent in enumerate(parents))))
+
+
+def grown_trees(many):
+    """All trees that grow from 0, each place put to a lesser one."""
+    return [tree_by_parents(parents) for parents in product(*[range(place) for place in range(1, many)])]
+
+
+def renumbered(web, order):
+    """The web with each place numbered as the order tells."""
+    many, ties = web
+    return (many, tuple(sorted(tuple(sorted((order[a], order[b]))) for a, b in ties)))

@@ -33,6 +33,15 @@ BARRED_NAMES = set("""
     methodcaller os quit setattr super type vars sys
 """.split())
 
+ALLOWED_METHODS = set("""
+    append clear copy count endswith extend find get index insert isalnum isalpha isdigit islower isspace isupper items
+    join keys ljust lower lstrip partition pop remove replace reverse rfind rjust rpartition rsplit rstrip setdefault
+    split splitlines startswith strip update upper values zfill bit_length
+""".split())
+
+ITERATED_AT_ONCE = {"zip", "enumerate", "reversed", "range"}
+ITERATORS = set("list tuple dict sorted sum any all enumerate zip bytes min max len".split())
+
 DUNDER_METHODS = {"__init__", "__eq__", "__repr__", "__str__", "__len__"}
 
 
@@ -68,6 +77,34 @@ def defined_names(module):
     body = ast.parse(source.read_text(encoding="utf-8")).body
     own = [node for node in body if not isinstance(node, ast.ImportFrom)]
     return set(bound_names(ast.Module(own, [])))
+
+
+def imported_modules(tree):
+    return {node.module for node in ast.walk(tree) if isinstance(node, ast.ImportFrom)}
+
+
+def local_names(tree):
+    """Every parameter and local variable of the functions of a file."""
+    for function in ast.walk(tree):
+        if isinstance(function, (ast.FunctionDef, ast.Lambda)):
+            for node in ast.walk(function):
+                if isinstance(node, ast.arg):
+                    yield node.arg
+                elif isinstance(node, ast.Name) and not isinstance(node.ctx, ast.Load):
+                    yield node.id
+
+
+def called_name(node):
+    return node.func.id if isinstance(node, ast.Call) and isinstance(node.func, ast.Name) else None
+
+
+def iterated_on_the_spot(tree):
+    """What stands where it is iterated at once: behind the in of a for, or handed to what goes through it."""
+    for node in ast.walk(tree):
+        if isinstance(node, (ast.For, ast.comprehension)):
+            yield node.iter
+        elif called_name(node) in ITERATORS:
+            yield from node.args
 
 
 class LanguageTest(unittest.TestCase):
@@ -144,6 +181,59 @@ class LanguageTest(unittest.TestCase):
                 if isinstance(node, ast.Compare) and isinstance(node.ops[0], (ast.Is, ast.IsNot)):
                     self.assertIsInstance(node.comparators[0], ast.Constant, (file, node.lineno))
                     self.assertIn(node.comparators[0].value, (None, True, False), (file, node.lineno))
+
+    def test_names_at_module_level_are_bound_once(self):
+        for file, text, tree in read_files():
+            names = []
+            for node in tree.body:
+                if isinstance(node, (ast.FunctionDef, ast.ClassDef)):
+                    names.append(node.name)
+                elif isinstance(node, ast.ImportFrom):
+                    names += [one.asname or one.name for one in node.names]
+                elif isinstance(node, ast.Assign):
+                    names += [target.id for target in node.targets]
+            self.assertEqual(sorted(set(names)), sorted(names), file)
+
+    def test_local_names_hide_no_import_function_or_class(self):
+        for file, text, tree in read_files():
+            shared = [node for node in tree.body if isinstance(node, (ast.ImportFrom, ast.ClassDef))]
+            taken = set(bound_names(ast.Module(shared, [])))
+            taken |= {node.name for node in tree.body if isinstance(node, ast.FunctionDef)}
+            self.assertEqual(set(local_names(tree)) & taken, set(), file)
+
+    def test_no_two_files_import_from_each_other(self):
+        above = {"treewalkers." + file[:-3]: imported_modules(tree) for file, text, tree in read_files()}
+        while above:
+            # What imports none of the files that are left can be taken out; in a round nothing can.
+            free = [module for module, others in above.items() if not others & set(above)]
+            self.assertNotEqual(free, [], sorted(above))
+            above = {module: others for module, others in above.items() if module not in free}
+
+    def test_each_import_is_used(self):
+        for file, text, tree in read_files():
+            used = {node.id for node in ast.walk(tree) if isinstance(node, ast.Name)}
+            for node in [node for node in tree.body if isinstance(node, ast.ImportFrom)]:
+                self.assertEqual({one.name for one in node.names} - used, set(), file)
+
+    def test_methods_of_builtin_values(self):
+        for file, text, tree in read_files():
+            own = {node.name for node in ast.walk(tree) if isinstance(node, ast.FunctionDef)}
+            for node in ast.walk(tree):
+                if isinstance(node, ast.Call) and isinstance(node.func, ast.Attribute):
+                    self.assertIn(node.func.attr, ALLOWED_METHODS | own, (file, node.lineno))
+
+    def test_iterated_at_once(self):
+        for file, text, tree in read_files():
+            fine = list(iterated_on_the_spot(tree))
+            for node in ast.walk(tree):
+                if called_name(node) in ITERATED_AT_ONCE:
+                    self.assertIn(node, fine, (file, node.lineno))
+
+    def test_powers_have_a_written_exponent(self):
+        for file, text, tree in read_files():
+            for node in ast.walk(tree):
+                if isinstance(node, ast.BinOp) and isinstance(node.op, ast.Pow):
+                    self.assertIsInstance(node.right, ast.Constant, (file, node.lineno))
 
 
 if __name__ == "__main__":

@@ -1,14 +1,10 @@
 """Webs: places and the ties between them; and trees, the webs without rings."""
 
-from treewalkers.errors import NoPlace, NoTie, NoTree, NoWeb
+from treewalkers.errors import NoPlace, NoTie, NoTree, NoTwo, NoWeb
+from treewalkers.exact import is_whole
 
 FEWEST_PLACES = 2
 MOST_PLACES = 8
-
-
-def is_whole(thing):
-    # To Python a truth is an int too, but here it is no whole number.
-    return isinstance(thing, int) and not isinstance(thing, bool)
 
 
 def is_place(many, thing):
@@ -49,6 +45,25 @@ def distances(ties, start):
     return found
 
 
+def nearer_place(ties, far, here):
+    """The neighbour by which one comes nearer in a tree, far being the distances from where one goes."""
+    # Without rings just one neighbour is nearer.
+    return [near for near in tied_to(ties, here) if far[near] < far[here]][0]
+
+
+def part_beyond(ties, a, b):
+    """The places to which one comes from b without the tie of a and b, a rising tuple."""
+    tie = (min(a, b), max(a, b))
+    others = [other for other in ties if other != tie]
+    return tuple(sorted(distances(others, b)))
+
+
+def degrees(web):
+    """How many neighbours each place has, a list."""
+    many, ties = web
+    return [len(tied_to(ties, place)) for place in range(many)]
+
+
 def is_web(thing):
     """Whether the thing, which may be anything, is a web."""
     if not isinstance(thing, tuple) or len(thing) != 2:
@@ -70,6 +85,11 @@ def check_web(thing):
 def check_place(web, thing):
     if not is_place(web[0], thing):
         raise NoPlace("this is no place of the web")
+
+
+def check_two(a, b):
+    if a == b:
+        raise NoTwo("the two places are one")
 
 
 def check_tree(thing):
@@ -105,25 +125,18 @@ def way(tree, a, b):
     check_tree(tree)
     check_place(tree, a)
     check_place(tree, b)
-    ties = tree[1]
-    far = distances(ties, b)
+    far = distances(tree[1], b)
     places = [a]
     while places[-1] != b:
-        here = places[-1]
-        # Without rings just one neighbour is nearer to b.
-        nearer = [near for near in tied_to(ties, here) if far[near] < far[here]]
-        places.append(nearer[0])
+        places.append(nearer_place(tree[1], far, places[-1]))
     return tuple(places)
 
 
 def part(tree, a, b):
-    """The places to which one comes from b without the tie of a and b, a rising tuple."""
+    """The places to which one comes from b without the tie of a and b, a rising tuple; or a refusal."""
     check_tree(tree)
     check_place(tree, a)
     check_place(tree, b)
-    ties = tree[1]
-    tie = (min(a, b), max(a, b))
-    if tie not in ties:
+    if b not in tied_to(tree[1], a):
         raise NoTie("these two places are not tied")
-    others = [other for other in ties if other != tie]
-    return tuple(sorted(distances(others, b)))
+    return part_beyond(tree[1], a, b)

@@ -1,0 +1,143 @@
+"""Point 3: what is told hangs together, at many webs."""
+
+import unittest
+from fractions import Fraction
+from itertools import permutations
+
+from treewalkers.means import ahead, back, is_means, means
+from treewalkers.streams import cost, even, heights, hindrance, is_stream
+from treewalkers.trees import means_to, there_and_back, tree_mean
+from treewalkers.walks import after, is_still, still, stepped, ways
+from treewalkers.webs import apart, neighbours
+
+from tests.samples import MORE_TREES, MORE_WEBS, all_webs, grown_trees, numbers, pair, pairs, some_webs
+
+MANY_TREES = list(MORE_TREES) + [web for many in (2, 3, 4) for web in all_webs(many) if len(web[1]) == many - 1]
+MANY_TREES += grown_trees(5) + grown_trees(6)[::3] + grown_trees(7)[::40] + grown_trees(8)[::300]
+MANY_WEBS = list(MORE_WEBS) + [web for many in (2, 3, 4) for web in all_webs(many)] + all_webs(5)[::9]
+MANY_WEBS += some_webs(6, 5) + some_webs(7, 9) + some_webs(8, 12)
+
+
+def some_pairs(web):
+    return list(permutations(range(web[0]), 2))[::max(1, web[0] - 3)]
+
+
+def go_round(web):
+    """Amounts that go round some ring of the web, at each place as much as comes; none where it is a tree."""
+    many, ties = web
+    for a, b in ties:
+        others = tuple(tie for tie in ties if tie != (a, b))
+        reached = {a: (a,)}
+        for time in range(many):
+            for c, d in others:
+                for here, there in ((c, d), (d, c)):
+                    if here in reached and there not in reached:
+                        reached[there] = reached[here] + (there,)
+        if b in reached:
+            steps = list(zip(reached[b], reached[b][1:])) + [(b, a)]
+            return [steps.count(tie) - steps.count(tie[::-1]) for tie in ties]
+    return None
+
+
+class MeansTest(unittest.TestCase):
+    def test_by_counting_and_by_equations(self):
+        for tree in MANY_TREES:
+            for goal in range(tree[0]):
+                counted = means_to(tree, goal)
+                self.assertEqual(means(tree, goal), pairs(*counted), (tree, goal))
+                self.assertIs(is_means(tree, goal, pairs(*counted)), True)
+                self.assertEqual(counted, tuple(tree_mean(tree, a, goal) for a in range(tree[0])))
+
+    def test_by_streams(self):
+        # The means to b are as high as a web in which to each place comes as much as it has neighbours; and one place
+        # is as high by what comes to another one as that one by what comes to it.
+        for web in MANY_WEBS:
+            for a, b in some_pairs(web):
+                high = numbers(heights(web, a, b))
+                by_streams = sum(len(neighbours(web, place)) * high[place] for place in range(web[0]))
+                self.assertEqual(means(web, b)[a], pair(by_streams), (web, a, b))
+
+    def test_there_and_back(self):
+        for web in MANY_WEBS:
+            for a, b in some_pairs(web):
+                there, again = numbers((means(web, b)[a], means(web, a)[b]))
+                due = 2 * len(web[1]) * Fraction(*hindrance(web, a, b))
+                self.assertEqual(there + again, due, (web, a, b))
+        for tree in MANY_TREES:
+            for a, b in some_pairs(tree):
+                self.assertEqual(hindrance(tree, a, b), (apart(tree, a, b), 1), (tree, a, b))
+                due = 2 * len(tree[1]) * Fraction(*hindrance(tree, a, b))
+                self.assertEqual(there_and_back(tree, a, b), due, (tree, a, b))
+
+    def test_back_is_1_through_the_still_share(self):
+        for web in MANY_WEBS + MANY_TREES:
+            shares = numbers(still(web))
+            for place in range(web[0]):
+                self.assertEqual(back(web, place), pair(1 / shares[place]), (web, place))
+
+
+class StreamsTest(unittest.TestCase):
+    def test_the_even_stream_costs_the_hindrance(self):
+        for web in MANY_WEBS:
+            for a, b in some_pairs(web):
+                self.assertEqual(cost(web, a, b, even(web, a, b)), hindrance(web, a, b), (web, a, b))
+
+    def test_any_other_stream_costs_more(self):
+        for web in MANY_WEBS:
+            ring = go_round(web)
+            if ring is None:
+                continue
+            for a, b in some_pairs(web):
+                for much in (Fraction(1, 100), Fraction(-2, 3), 1):
+                    amounts = [one + much * other for one, other in zip(numbers(even(web, a, b)), ring)]
+                    self.assertIs(is_stream(web, a, b, pairs(*amounts)), True)
+                    more = Fraction(*cost(web, a, b, pairs(*amounts)))
+                    self.assertGreater(more, Fraction(*hindrance(web, a, b)), (web, a, b, much))
+
+    def test_the_other_way(self):
+        for web in MANY_WEBS:
+            for a, b in some_pairs(web):
+                self.assertEqual(hindrance(web, a, b), hindrance(web, b, a), (web, a, b))
+                other_way = pairs(*[-one for one in numbers(even(web, a, b))])
+                self.assertEqual(even(web, b, a), other_way, (web, a, b))
+
+    def test_heights_are_the_chances_times_the_hindrance(self):
+        for web in MANY_WEBS[::3]:
+            for a, b in some_pairs(web):
+                high = Fraction(*hindrance(web, a, b))
+                chances = numbers([ahead(web, place, a, b) for place in range(web[0])])
+                self.assertEqual(heights(web, a, b), pairs(*[high * chance for chance in chances]), (web, a, b))
+
+
+class WalksTest(unittest.TestCase):
+    def test_chances_are_shares_and_still_shares_stay(self):
+        for web in MANY_WEBS[::2]:
+            self.assertIs(is_still(web, still(web)), True)
+            for steps in (0, 1, 2, 7):
+                told = after(web, 0, steps)
+                self.assertEqual(sum(numbers(told)), 1)
+                self.assertEqual(stepped(web, told), after(web, 0, steps + 1), (web, steps))
+
+    def test_ways_there_and_back_are_as_many(self):
+        for web in MANY_WEBS[::2]:
+            for a, b in some_pairs(web):
+                self.assertEqual(ways(web, a, b, 9), ways(web, b, a, 9), (web, a, b))
+
+
+class ThingsStayTest(unittest.TestCase):
+    def test_what_was_handed_in_may_be_changed_later(self):
+        # Told again behind other questions, of things that were made anew, the answers are the same.
+        web = (4, ((0, 1), (0, 3), (1, 2), (2, 3)))
+        ahead_of_all = [means(web, 1), still(web), even(web, 0, 2), after(web, 3, 30), heights(web, 1, 3)]
+        for other in MANY_WEBS[:40]:
+            means(other, 0), still(other), even(other, 0, 1), after(other, 0, 3)
+        thing = [list(one) for one in still(web)]
+        self.assertIs(is_still(web, thing), False)
+        thing[0][0] = 99
+        self.assertIs(is_still(web, tuple(tuple(one) for one in thing)), False)
+        behind = [means(web, 1), still(web), even(web, 0, 2), after(web, 3, 30), heights(web, 1, 3)]
+        self.assertEqual(behind, ahead_of_all)
+
+
+if __name__ == "__main__":
+    unittest.main()
