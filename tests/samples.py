@@ -2,7 +2,8 @@
 
 import copy
 from fractions import Fraction
-from itertools import combinations, product
+from functools import lru_cache
+from itertools import combinations, permutations, product
 from math import gcd
 
 from treewalkers import errors
@@ -222,3 +223,63 @@ def renumbered(web, order):
     """The web with each place numbered as the order tells."""
     many, ties = web
     return (many, tuple(sorted(tuple(sorted((order[a], order[b]))) for a, b in ties)))
+
+
+# What follows is for what is told of one tie more or less, of two walkers and of all that is seen.
+
+FEW_WEBS = tuple(web for web in MORE_WEBS if web[0] <= 6)
+LARGE_WEBS = tuple(web for web in MORE_WEBS if web[0] > 6)
+
+# None of these is a tie of places of any web, nor one that can be put.
+NO_TIES = (
+    (1, 0), (2, 0), (7, 6), (0, 0), (1, 1), (7, 7), (0, 8), (7, 8), (-1, 0), (-1, 1), (-2, -1), (8, 9), (0, 10 ** 29),
+    (-10 ** 29, 1), (0, True), (False, 1), (False, True), (True, 2), (False, 2), (True, 7), (0, None), (None, 1),
+    (0, "1"), ("0", 1), ("0", "1"), (0, 1.0), (0.0, 1), (0, (1,)), ([0], 1), [0, 1], [0, 2], [1, 2], [0, 7], [], (),
+    (0,), (1,), (0, 1, 2), (0, 1, 1), ((0, 1),), ((0, 1), (1, 2)), "01", "0-1", "", b"01", {0: 1}, {}, {0, 1}, 0, 1,
+    10 ** 29, True, False, None, 1.0, DEEP,
+)
+
+
+def some_pairs(web):
+    """Some pairs of unlike places, in both orders."""
+    return list(permutations(range(web[0]), 2))[::max(1, web[0] - 3)]
+
+
+def solved_by_fractions(rows):
+    """The numbers that meet the equations, each row having what its numbers come to as its last one."""
+    table = [[Fraction(one) for one in row] for row in rows]
+    for at in range(len(table)):
+        lead = next(k for k in range(at, len(table)) if table[k][at])
+        table[at], table[lead] = table[lead], table[at]
+        table[at] = [one / table[at][at] for one in table[at]]
+        for k in range(len(table)):
+            if k != at and table[k][at]:
+                times = table[k][at]
+                table[k] = [one - times * other for one, other in zip(table[k], table[at])]
+    return [row[-1] for row in table]
+
+
+def values_by_words(web, given, added):
+    """Of each given place the given number, of any other one the neighbours' mean and what is added by a step."""
+    rows = []
+    for place in range(web[0]):
+        row = [Fraction(0)] * (web[0] + 1)
+        row[place] = Fraction(1)
+        row[-1] = Fraction(given.get(place, added))
+        if place not in given:
+            for near in nearby(web, place):
+                row[near] -= Fraction(1, len(nearby(web, place)))
+        rows.append(row)
+    return solved_by_fractions(rows)
+
+
+@lru_cache(None)
+def steps_to_some(web, goals):
+    """From each place the mean number of steps until a walker stands on one of the goals."""
+    return tuple(values_by_words(web, {goal: 0 for goal in goals}, 1))
+
+
+@lru_cache(None)
+def chances_to_one(web, one, others):
+    """From each place the chance that a walker comes to the one ahead of all others."""
+    return tuple(values_by_words(web, {one: 1, **{other: 0 for other in others}}, 0))

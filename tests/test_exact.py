@@ -3,7 +3,9 @@
 import unittest
 from fractions import Fraction
 
-from treewalkers.exact import are_fractions, fraction, is_fraction, is_whole, minus, plus, solved, times, total
+from treewalkers.exact import (
+    are_fractions, common_bottom, fraction, is_fraction, is_less, is_whole, minus, plus, solved, times, total,
+)
 
 from tests.samples import NO_FRACTIONS, assert_fraction, assert_told, pair, pairs
 
@@ -39,6 +41,17 @@ class FractionsTest(unittest.TestCase):
                 assert_told(self, pair(first * second), times, one, other)
         assert_told(self, (0, 1), total, [])
         assert_told(self, pair(sum(Fraction(*one) for one in FRACTIONS)), total, FRACTIONS)
+
+    def test_which_is_less(self):
+        for one in FRACTIONS:
+            for other in FRACTIONS:
+                assert_told(self, Fraction(*one) < Fraction(*other), is_less, one, other)
+
+    def test_common_bottom(self):
+        assert_told(self, 1, common_bottom, [])
+        assert_told(self, 1, common_bottom, [(0, 1), (-7, 1)])
+        assert_told(self, 12, common_bottom, [(1, 4), (5, 6), (-1, 3), (0, 1)])
+        assert_told(self, 10 ** 29 * 7, common_bottom, [(1, 10 ** 29), (-3, 7)])
 
     def test_lowest_terms(self):
         assert_told(self, (0, 1), fraction, 0, 12)

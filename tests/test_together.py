@@ -2,24 +2,22 @@
 
 import unittest
 from fractions import Fraction
-from itertools import permutations
+from itertools import combinations
 
 from treewalkers.means import ahead, back, is_means, means
+from treewalkers.papers import is_paper, paper_for, shows
 from treewalkers.streams import cost, even, heights, hindrance, is_stream
+from treewalkers.ties import best_tie, more, with_tie, without
 from treewalkers.trees import means_to, there_and_back, tree_mean
 from treewalkers.walks import after, is_still, still, stepped, ways
 from treewalkers.webs import apart, neighbours
 
-from tests.samples import MORE_TREES, MORE_WEBS, all_webs, grown_trees, numbers, pair, pairs, some_webs
+from tests.samples import MORE_TREES, MORE_WEBS, all_webs, grown_trees, numbers, pair, pairs, some_pairs, some_webs
 
 MANY_TREES = list(MORE_TREES) + [web for many in (2, 3, 4) for web in all_webs(many) if len(web[1]) == many - 1]
 MANY_TREES += grown_trees(5) + grown_trees(6)[::3] + grown_trees(7)[::40] + grown_trees(8)[::300]
 MANY_WEBS = list(MORE_WEBS) + [web for many in (2, 3, 4) for web in all_webs(many)] + all_webs(5)[::9]
 MANY_WEBS += some_webs(6, 5) + some_webs(7, 9) + some_webs(8, 12)
-
-
-def some_pairs(web):
-    return list(permutations(range(web[0]), 2))[::max(1, web[0] - 3)]
 
 
 def go_round(web):
@@ -37,6 +35,10 @@ def go_round(web):
             steps = list(zip(reached[b], reached[b][1:])) + [(b, a)]
             return [steps.count(tie) - steps.count(tie[::-1]) for tie in ties]
     return None
+
+
+def free_ties(web):
+    return [tie for tie in combinations(range(web[0]), 2) if tie not in web[1]]
 
 
 class MeansTest(unittest.TestCase):
@@ -107,6 +109,59 @@ class StreamsTest(unittest.TestCase):
                 high = Fraction(*hindrance(web, a, b))
                 chances = numbers([ahead(web, place, a, b) for place in range(web[0])])
                 self.assertEqual(heights(web, a, b), pairs(*[high * chance for chance in chances]), (web, a, b))
+
+
+class PapersTest(unittest.TestCase):
+    def test_the_paper_told_shows_the_hindrance_twice(self):
+        for web in MANY_WEBS:
+            for a, b in some_pairs(web):
+                paper = paper_for(web, a, b)
+                self.assertIs(is_paper(web, a, b, paper), True)
+                self.assertEqual(shows(web, a, b, paper), (hindrance(web, a, b),) * 2, (web, a, b))
+                self.assertEqual(paper[0], even(web, a, b), (web, a, b))
+                self.assertEqual(paper[1], tuple(ahead(web, place, a, b) for place in range(web[0])), (web, a, b))
+
+    def test_each_paper_shows_bounds(self):
+        for web in MANY_WEBS:
+            ring = go_round(web) or [0] * len(web[1])
+            for a, b in some_pairs(web):
+                high = Fraction(*hindrance(web, a, b))
+                stream, levels = paper_for(web, a, b)
+                for much in (Fraction(1, 1000), Fraction(-3, 4), 5):
+                    amounts = [one + much * other for one, other in zip(numbers(stream), ring)]
+                    value = numbers(levels)
+                    value = [one if place in (a, b) else one + much * (place + 1) for place, one in enumerate(value)]
+                    low, top = numbers(shows(web, a, b, (pairs(*amounts), pairs(*value))))
+                    self.assertEqual(low < high, web[0] > 2, (web, a, b, much))
+                    self.assertEqual(high < top, any(ring), (web, a, b, much))
+                    self.assertTrue(low <= high <= top, (web, a, b, much))
+
+
+class TiesTest(unittest.TestCase):
+    def test_a_tie_more_and_away_again(self):
+        for web in MANY_WEBS:
+            for tie in free_ties(web):
+                wider = with_tie(web, tie)
+                self.assertEqual(without(wider, tie), web, (web, tie))
+                self.assertEqual(set(wider[1]), set(web[1]) | {tie}, (web, tie))
+
+    def test_what_a_tie_changes(self):
+        for web in MANY_WEBS[::3]:
+            for tie in free_ties(web)[::2]:
+                wider = with_tie(web, tie)
+                for a, b in some_pairs(web):
+                    due = Fraction(*means(wider, b)[a]) - Fraction(*means(web, b)[a])
+                    self.assertEqual(more(web, a, b, tie), pair(due), (web, a, b, tie))
+                    # With a tie more there are more streams, so none costs more than it did.
+                    one, other = numbers((hindrance(wider, a, b), hindrance(web, a, b)))
+                    self.assertLessEqual(one, other, (web, a, b, tie))
+
+    def test_the_best_tie_is_better(self):
+        for web in MANY_WEBS[::3]:
+            for a, b in some_pairs(web):
+                tie = best_tie(web, a, b)
+                if tie is not None:
+                    self.assertLess(more(web, a, b, tie)[0], 0, (web, a, b))
 
 
 class WalksTest(unittest.TestCase):

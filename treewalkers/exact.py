@@ -60,11 +60,23 @@ def total(fractions):
     return whole
 
 
+def is_less(one, other):
+    return one[0] * other[1] < other[0] * one[1]
+
+
+def common_bottom(fractions):
+    """The least whole number from 1 on that each bottom divides."""
+    common = 1
+    for top, bottom in fractions:
+        common = common // common_divisor(common, bottom) * bottom
+    return common
+
+
 def solved(rows):
     """The fractions that meet the equations, one for each unknown.
 
     A row has a whole number for each unknown and, as its last one, what they come to together. The rows are such that
-    no leading number becomes 0 or less, as are those of means.balanced.
+    no leading number becomes 0 or less, as are those of means.balanced and meets.mean_until_met.
     """
     table = list(rows)
     former = 1

@@ -2,7 +2,7 @@
 
 from treewalkers.exact import are_fractions, solved, times, total
 from treewalkers.walks import still
-from treewalkers.webs import check_place, check_two, check_web, degrees, tied_to
+from treewalkers.webs import check_ends, check_place, check_web, degrees, tied_to
 
 
 def balanced(web, given, added):
@@ -36,6 +36,13 @@ def means(web, goal):
     return balanced(web, {goal: 0}, degrees(web))
 
 
+def web_mean(web, a, b):
+    """The mean number of steps from a to b, 0 where they are one."""
+    check_web(web)
+    check_place(web, a)
+    return means(web, b)[a]
+
+
 def is_means(web, goal, thing):
     """Whether the thing, which may be anything, is the means to the goal."""
     told = means(web, goal)
@@ -52,14 +59,17 @@ def back(web, place):
     return (bottom, top)
 
 
+def chances_ahead(web, one, other):
+    """For each place the chance that a walker from it comes to the one ahead of the other, unlike one."""
+    return balanced(web, {one: 1, other: 0}, [0] * web[0])
+
+
 def ahead(web, place, one, other):
     """The chance that a walker from the place comes to the one ahead of the other."""
     check_web(web)
     check_place(web, place)
-    check_place(web, one)
-    check_place(web, other)
-    check_two(one, other)
-    return balanced(web, {one: 1, other: 0}, [0] * web[0])[place]
+    check_ends(web, one, other)
+    return chances_ahead(web, one, other)[place]
 
 
 def drawn(web):

@@ -3,14 +3,7 @@
 from treewalkers.errors import NoStream
 from treewalkers.exact import ONE, ZERO, are_fractions, minus, times, total
 from treewalkers.means import balanced
-from treewalkers.webs import check_place, check_two, check_web
-
-
-def check_ends(web, a, b):
-    check_web(web)
-    check_place(web, a)
-    check_place(web, b)
-    check_two(a, b)
+from treewalkers.webs import check_ends
 
 
 def more_going(web, stream, place):

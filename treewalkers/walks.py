@@ -25,6 +25,23 @@ def shares_behind_step(web, shares):
     return tuple([total([going[near] for near in tied_to(ties, place)]) for place in range(many)])
 
 
+def weights_behind(start, following, steps, parts):
+    """A dict of what may be behind so many steps from the start, each with a whole number in proportion to its chance.
+
+    The dict following has for all that may be a list of what a step leads to, each as likely; parts is a whole number
+    that the length of each list divides. So no fractions need be brought to lowest terms on the way.
+    """
+    weights = {start: 1}
+    for step in range(steps):
+        further = {}
+        for state, weight in weights.items():
+            share = weight * (parts // len(following[state]))
+            for other in following[state]:
+                further[other] = further.get(other, 0) + share
+        weights = further
+    return weights
+
+
 def after(web, place, steps):
     """For each place the chance that a walker from the place stands there behind so many steps."""
     check_web(web)

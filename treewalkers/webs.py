@@ -1,10 +1,12 @@
 """Webs: places and the ties between them; and trees, the webs without rings."""
 
-from treewalkers.errors import NoPlace, NoTie, NoTree, NoTwo, NoWeb
+from treewalkers.errors import NoPlace, NoTie, NoTree, NoTwo, NoWeb, TooMany
 from treewalkers.exact import is_whole
 
 FEWEST_PLACES = 2
 MOST_PLACES = 8
+# What is told by pairs or sets of places, or by numbering anew, is told of webs with at most so many.
+FEW_PLACES = 6
 
 
 def is_place(many, thing):
@@ -90,6 +92,19 @@ def check_place(web, thing):
 def check_two(a, b):
     if a == b:
         raise NoTwo("the two places are one")
+
+
+def check_ends(web, a, b):
+    """Refuses what is no web, and then what are no two unlike places of it."""
+    check_web(web)
+    check_place(web, a)
+    check_place(web, b)
+    check_two(a, b)
+
+
+def check_few(web):
+    if web[0] > FEW_PLACES:
+        raise TooMany("this web has too many places")
 
 
 def check_tree(thing):
