@@ -7,6 +7,8 @@ from itertools import combinations, permutations, product
 from math import gcd
 
 from treewalkers import errors
+from treewalkers.bench import Bench
+from treewalkers.desk import Desk
 
 PAIR = (2, ((0, 1),))
 LINE = (3, ((0, 1), (1, 2)))
@@ -158,6 +160,15 @@ def nearby(web, place):
     return [a + b - place for a, b in web[1] if place in (a, b)]
 
 
+def walks_from(web, place, steps):
+    """All walks of so many steps from the place, one by one, each with its chance."""
+    walks = [((place,), Fraction(1))]
+    for time in range(steps):
+        walks = [(walk + (near,), chance / len(nearby(web, walk[-1])))
+                 for walk, chance in walks for near in nearby(web, walk[-1])]
+    return walks
+
+
 def assert_fractions(case, told, many):
     """What is told is a tuple of so many fractions."""
     case.assertIs(told.__class__, tuple)
@@ -283,3 +294,42 @@ def steps_to_some(web, goals):
 def chances_to_one(web, one, others):
     """From each place the chance that a walker comes to the one ahead of all others."""
     return tuple(values_by_words(web, {one: 1, **{other: 0 for other in others}}, 0))
+
+
+def choices(places):
+    for many in range(len(places) + 1):
+        yield from combinations(places, many)
+
+
+@lru_cache(None)
+def seen_mean_by_words(web, place):
+    """All is seen when the last place is: the greatest of several times is told by the least of each choice of them."""
+    return sum((-1) ** (len(goals) + 1) * steps_to_some(web, goals)[place]
+               for goals in choices(range(web[0])) if goals)
+
+
+# What follows leads benches and desks.
+
+
+def deeds_to(web):
+    """Deeds by which a bench comes from its first web to the web: all places, then all ties, then those too many."""
+    many, ties = web
+    star = [(0, b) for b in range(1, many)]
+    deeds = [("place", 0) for place in range(2, many)]
+    deeds += [("tie", tie) for tie in ties if tie not in star]
+    return deeds + [("cut", tie) for tie in star if tie not in ties]
+
+
+def led_bench(web):
+    bench = Bench()
+    for deed, thing in deeds_to(web):
+        getattr(bench, deed)(thing)
+    return bench
+
+
+def led_desk(web):
+    desk = Desk()
+    for deed, thing in deeds_to(web):
+        figures = [thing] if deed == "place" else list(thing)
+        desk.say(" ".join([deed] + [str(figure) for figure in figures]))
+    return desk

@@ -27,6 +27,10 @@ MANY_WEBS += all_webs(5)[::29] + some_webs(6, 11) + grown_trees(5)[::5] + grown_
 NO_MEETING_STEPS = NO_STEPS + (21, 22, 30)
 
 
+# Each function of two walkers, with what it takes behind the two places.
+ASKED = ((by_turns, ()), (at_once, ()), (met_by, (1,)), (met_by, (21,)), (met_by, (None,)))
+
+
 def sides_by_words(web):
     """By trying each choice of places for the side of 0."""
     many, ties = web
@@ -247,7 +251,7 @@ class RefusalsTest(unittest.TestCase):
         for place in NO_PLACES:
             # Webs of eight places are refused for the place, not for how many they have.
             for web in (LINE, KITE, FULL, BUG):
-                for function, rest in ((by_turns, ()), (at_once, ()), (met_by, (1,)), (met_by, (21,)), (met_by, (None,))):
+                for function, rest in ASKED:
                     assert_refused(self, NoPlace, function, web, place, 0, *rest)
                     assert_refused(self, NoPlace, function, web, 0, place, *rest)
                     assert_refused(self, NoPlace, function, web, place, place, *rest)
@@ -255,7 +259,7 @@ class RefusalsTest(unittest.TestCase):
     def test_places_of_greater_webs(self):
         for web in FEW_WEBS + LARGE_WEBS:
             many = web[0]
-            for function, rest in ((by_turns, ()), (at_once, ()), (met_by, (1,)), (met_by, (-1,))):
+            for function, rest in ASKED:
                 assert_refused(self, NoPlace, function, web, many, 0, *rest)
                 assert_refused(self, NoPlace, function, web, 0, many, *rest)
 

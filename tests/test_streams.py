@@ -9,8 +9,8 @@ from treewalkers.streams import cost, even, heights, hindrance, is_stream
 
 from tests.samples import (
     ANYTHING, FULL, KITE, LINE, LONG, MORE_TREES, MORE_WEBS, NO_PLACES, NO_WEBS, PAIR, RING, RING_OF_EIGHT, STAR, TREE,
-    all_webs, assert_fraction, assert_fractions, assert_refused, assert_told, numbers, pair, pairs, some_pairs, some_webs,
-    spoiled, table_of_distances,
+    all_webs, assert_fraction, assert_fractions, assert_refused, assert_told, numbers, pair, pairs, some_pairs,
+    some_webs, spoiled, table_of_distances,
 )
 
 HALF, THIRD, QUARTER = Fraction(1, 2), Fraction(1, 3), Fraction(1, 4)

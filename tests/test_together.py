@@ -4,15 +4,22 @@ import unittest
 from fractions import Fraction
 from itertools import combinations
 
+from treewalkers.codes import by_code, code
 from treewalkers.means import ahead, back, is_means, means
+from treewalkers.names import longest, name, names, quickest, shortest, slowest
 from treewalkers.papers import is_paper, paper_for, shows
+from treewalkers.seen import seen_last, seen_mean
 from treewalkers.streams import cost, even, heights, hindrance, is_stream
 from treewalkers.ties import best_tie, more, with_tie, without
-from treewalkers.trees import means_to, there_and_back, tree_mean
+from treewalkers.texts import read, written
+from treewalkers.trees import greatest, means_to, there_and_back, tree_mean
 from treewalkers.walks import after, is_still, still, stepped, ways
-from treewalkers.webs import apart, neighbours
+from treewalkers.webs import apart, is_tree, neighbours
 
-from tests.samples import MORE_TREES, MORE_WEBS, all_webs, grown_trees, numbers, pair, pairs, some_pairs, some_webs
+from tests.samples import (
+    MORE_TREES, MORE_WEBS, all_webs, grown_trees, led_bench, led_desk, numbers, pair, pairs, renumbered, some_pairs,
+    some_webs,
+)
 
 MANY_TREES = list(MORE_TREES) + [web for many in (2, 3, 4) for web in all_webs(many) if len(web[1]) == many - 1]
 MANY_TREES += grown_trees(5) + grown_trees(6)[::3] + grown_trees(7)[::40] + grown_trees(8)[::300]
@@ -177,6 +184,87 @@ class WalksTest(unittest.TestCase):
         for web in MANY_WEBS[::2]:
             for a, b in some_pairs(web):
                 self.assertEqual(ways(web, a, b, 9), ways(web, b, a, 9), (web, a, b))
+
+
+class CodesAndNamesTest(unittest.TestCase):
+    def test_codes_and_trees_tell_one_another(self):
+        for tree in MANY_TREES:
+            if tree[0] > 2:
+                self.assertEqual(by_code(code(tree)), tree, tree)
+                # A place is written once less than it has neighbours.
+                written_times = [code(tree).count(place) + 1 for place in range(tree[0])]
+                self.assertEqual(written_times, [len(neighbours(tree, place)) for place in range(tree[0])], tree)
+
+    def test_a_name_is_told_as_the_tree_but_for_numbers(self):
+        for tree in [tree for tree in MANY_TREES if tree[0] <= 6][::3]:
+            known = name(tree)
+            self.assertIn(known, names(tree[0]))
+            self.assertEqual(greatest(known)[0], greatest(tree)[0], tree)
+            means_of_both = [sorted(numbers(seen_mean(one, place) for place in range(one[0]))) for one in (tree, known)]
+            self.assertEqual(means_of_both[0], means_of_both[1], tree)
+            self.assertEqual(name(renumbered(tree, range(tree[0])[::-1])), known, tree)
+
+    def test_the_best_and_worst_trees_have_what_is_told(self):
+        for many in range(2, 7):
+            steps = {tree: greatest(tree)[0] for tree in names(many)}
+            seen = {tree: max(numbers(seen_mean(tree, place) for place in range(many))) for tree in names(many)}
+            for told, values, pick in ((longest(many), steps, max), (shortest(many), steps, min)):
+                self.assertEqual(told[0], pick(values.values()))
+                self.assertEqual(told[1], [tree for tree in names(many) if values[tree] == told[0]])
+            for told, values, pick in ((slowest(many), seen, max), (quickest(many), seen, min)):
+                self.assertEqual(told[0], pair(pick(values.values())))
+                self.assertEqual(told[1], [tree for tree in names(many) if pair(values[tree]) == told[0]])
+
+
+class SeenTest(unittest.TestCase):
+    def test_of_trees_only_ends_are_seen_last(self):
+        for tree in [tree for tree in MANY_TREES if tree[0] <= 6]:
+            for place in range(tree[0]):
+                for other, chance in enumerate(seen_last(tree, place)):
+                    end = other != place and len(neighbours(tree, other)) == 1
+                    self.assertTrue(end or chance == (0, 1), (tree, place, other))
+
+    def test_no_place_is_come_to_later_than_all_are_seen(self):
+        for web in [web for web in MANY_WEBS if web[0] <= 6][::2]:
+            for place in range(web[0]):
+                furthest = max(Fraction(*means(web, goal)[place]) for goal in range(web[0]))
+                self.assertLessEqual(furthest, Fraction(*seen_mean(web, place)), (web, place))
+
+
+class BenchesAndDesksTest(unittest.TestCase):
+    def test_they_tell_as_of_the_web(self):
+        for web in MANY_WEBS + MANY_TREES[::4]:
+            bench, desk = led_bench(web), led_desk(web)
+            self.assertEqual(bench.web(), web)
+            self.assertEqual(desk.say("web"), written(web))
+            self.assertEqual(read(desk.say("web")), web)
+            self.assertEqual(desk.say("tree"), "yes" if is_tree(web) else "no")
+            if is_tree(web) and web[0] > 2:
+                told = tuple(int(word) for word in desk.say("code").split(" "))
+                self.assertEqual(told, code(web))
+                self.assertEqual(by_code(told), bench.web())
+            for a, b in some_pairs(web):
+                self.assertEqual(bench.mean(a, b), means(web, b)[a], (web, a, b))
+                self.assertEqual(bench.hindrance(a, b), hindrance(web, a, b), (web, a, b))
+                self.assertEqual(desk.say(f"mean {a} {b}"), as_text(means(web, b)[a]), (web, a, b))
+                self.assertEqual(desk.say(f"hinder {a} {b}"), as_text(hindrance(web, a, b)), (web, a, b))
+
+    def test_a_deed_is_as_the_web_with_a_tie_more_or_less(self):
+        for web in MANY_WEBS[::2]:
+            bench = led_bench(web)
+            for tie in free_ties(web):
+                former = [bench.mean(a, b) for a, b in some_pairs(web)]
+                bench.tie(tie)
+                self.assertEqual(bench.web(), with_tie(web, tie))
+                for (a, b), one in zip(some_pairs(web), former):
+                    change = Fraction(*bench.mean(a, b)) - Fraction(*one)
+                    self.assertEqual(more(web, a, b, tie), pair(change), (web, a, b, tie))
+                bench.undo()
+                self.assertEqual(bench.web(), web)
+
+
+def as_text(fraction):
+    return f"{fraction[0]}/{fraction[1]}"
 
 
 class ThingsStayTest(unittest.TestCase):

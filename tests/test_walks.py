@@ -10,19 +10,10 @@ from treewalkers.walks import after, is_still, stepped, still, ways
 from tests.samples import (
     ANYTHING, BUG, FORK, FULL, KITE, LINE, LONG, MORE_WEBS, NO_PLACES, NO_STEPS, NO_WEBS, PAIR, RING, RING_OF_EIGHT,
     STAR, TREE, WHEEL, all_webs, assert_fractions, assert_refused, assert_told, nearby, numbers, pairs, some_webs,
-    spoiled,
+    spoiled, walks_from,
 )
 
 HALF, THIRD, QUARTER = Fraction(1, 2), Fraction(1, 3), Fraction(1, 4)
-
-
-def walks_from(web, place, steps):
-    """All walks of so many steps from the place, one by one, each with its chance."""
-    walks = [((place,), Fraction(1))]
-    for time in range(steps):
-        walks = [(walk + (near,), chance / len(nearby(web, walk[-1])))
-                 for walk, chance in walks for near in nearby(web, walk[-1])]
-    return walks
 
 
 def step_by_words(web, shares):

@@ -19,8 +19,9 @@ def sides(web):
 def sides_of(web):
     many, ties = web
     far = distances(ties, 0)
-    # A step leads to the other side, so a place is on the side of 0 just if it is evenly far from it.
-    if any([(far[a] - far[b]) % 2 == 0 for a, b in ties]):
+    # A step leads to the other side, so a place is on the side of 0 just if it is evenly far from it. Of two that are
+    # tied the one is at most one tie further, so they are on one side just if they are as far.
+    if any([far[a] == far[b] for a, b in ties]):
         return None
     even_places = [place for place in range(many) if far[place] % 2 == 0]
     odd_places = [place for place in range(many) if far[place] % 2 == 1]
@@ -53,7 +54,8 @@ def pairs_until_met(start, following):
     at = 0
     # The list grows ahead of the index until no pair leads to one that is new.
     while at < len(found):
-        for pair in following[found[at]]:
+        options = following[found[at]]
+        for pair in options:
             if pair[0] != pair[1] and pair not in found:
                 found.append(pair)
         at += 1

@@ -7,7 +7,7 @@ from treewalkers.webs import check_ends, check_web, is_tie, is_web
 
 
 def widened(many, ties, tie):
-    """The web of so many places with these ties and one that is not among them."""
+    """The web of so many places that has these ties and one that is not among them."""
     return (many, tuple(sorted(ties + (tie,))))
 
 
